@@ -5,6 +5,9 @@ READ = 1
 WRITE = 2
 SAY = 3
 
+# Rows of cells below this one are looked at when all is done.
+FIRST_NOT_LOOKED_AT = 2
+
 
 class Code:
     """What the calls of one line are about."""
@@ -25,6 +28,43 @@ def count_names(code):
         if gives_name(row):
             count += 1
     return count
+
+
+def name_used(row):
+    """The name that is written or said; None where no name is."""
+    if row[0] == WRITE:
+        return row[4]
+    if row[0] == SAY:
+        return row[1]
+    return None
+
+
+def cells_of(row):
+    """The row of cells that a read or write is of; None for a number or say."""
+    if row[0] == READ:
+        return row[2]
+    if row[0] == WRITE:
+        return row[1]
+    return None
+
+
+def place_of(row):
+    """Base and number of the place of a read or write."""
+    if row[0] == READ:
+        return row[3:5]
+    return row[2:4]
+
+
+def name_at_place(row):
+    """The name whose word is in the place right behind a read or write of it."""
+    if row[0] == READ:
+        return row[1]
+    return row[4]
+
+
+def is_looked_at(row):
+    """Of a write: whether its row of cells is looked at when all is done."""
+    return cells_of(row) < FIRST_NOT_LOOKED_AT
 
 
 def in_numbers(handed, rows):

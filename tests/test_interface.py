@@ -4,7 +4,8 @@ import unittest
 
 import seencellsdesk.code
 from seencellsdesk.code import answers
-from tests.helper import MOST, SHOWS, code, line, num, read, say, write
+from tests.helper import (
+    BETTER, MOST, SHOWS, code, line, num, read, run, runbetter, say, sees, split, sure, trade, write)
 
 FULL_LINE = line([
     code(2), num(MOST), write(1, 2, MOST, 2), read(3, 1, 4), say(3), SHOWS,
@@ -12,6 +13,52 @@ FULL_LINE = line([
 FULL_LINE_TOLD = [
     1, 2, 1, 1, 1, 2, 1, 3, 1, 4, 17, 2, 4, 0, 2, MOST, 2, 1, 2, MOST, 2, 1, 3, 3, 1, 4, 3, 3,
     1, -1, 1, -2, 1, -2, 1, 1, 1, 1, 5, 1, 1, 0, 1, 0]
+
+# All twelve kinds, refused and not, in 40 calls, and what each of them answers.
+ALL_KINDS = [
+    (BETTER, [0, 0]),
+    (run(4), [0, 0]),
+    (sees(0), [-3]),
+    (code(5), [-1]),
+    (code(2), [2]),
+    (sure(0, 2, 0), [0]),
+    (sure(0, 3, 0), [-2]),
+    (num(7), [1]),
+    (num(7), [2]),
+    (write(0, 1, 3, 2), [3]),
+    (trade(0), [1]),
+    (trade(1), [1]),
+    (trade(2), [-3]),
+    (write(0, 2, 0, 3), [4]),
+    (sure(0, 1, 3), [0]),
+    (read(0, 1, 3), [5]),
+    (sees(4), [0, 2, 2, 3]),
+    (sees(3), [-3]),
+    (say(4), [6]),
+    (say(5), [-2]),
+    (trade(4), [0]),
+    (sure(0, 1, 3), [1, 4]),
+    (read(4, 0, 0), [-2]),
+    (write(2, 0, MOST, 1), [7]),
+    (read(2, 2, 0), [8]),
+    (sees(7), [1, 1, 6]),
+    (write(1, 0, 9, 5), [9]),
+    (SHOWS, [2, 9, 0, 2, 7, 0, 3, 7, 2, 0, 1, 3, 2, 2, 0, 2, 0, 3, 1, 4, 0, 1, 3, 3, 4,
+             2, 2, 0, MOST, 1, 1, 5, 2, 2, 0, 2, 1, 0, 9, 5]),
+    (BETTER, [2, 7, 0, 2, 7, 2, 0, 1, 3, 2, 2, 0, 2, 0, 2, 3, 2,
+              2, 2, 0, MOST, 1, 1, 5, 2, 2, 0, 2, 1, 0, 9, 5]),
+    (run(1, 10, MOST), [1, 7, 3, 0, 13, 7, 0, MOST, 7, 1, 9, MOST]),
+    (runbetter(1, 10, MOST), [1, 7, 3, 0, 13, 7, 0, MOST, 7, 1, 9, MOST]),
+    (run(1, 10), [-5]),
+    (runbetter(1, *[9] * 40), [-5]),
+    (run(1, MOST, 2), [1, 7, 2, 0, 2, 7, 1, 9, 2015845]),
+    (runbetter(1, MOST, 2), [1, 7, 2, 0, 2, 7, 1, 9, 2015845]),
+    (trade(7), [0]),
+    (trade(8), [-3]),
+    (code(0), [0]),
+    (BETTER, [0, 0]),
+    (runbetter(MOST), [0, 0])]
+ALL_KINDS_LINE = line([call for call, told in ALL_KINDS])
 
 
 class GuardedList(list):
@@ -48,8 +95,24 @@ class AnswersTest(unittest.TestCase):
         self.assertEqual(answers([5] * 40), [2, 0, 0] * 40)
         self.assertEqual(answers([0, 4] * 39 + [5]), [1, 4] * 39 + [2, 4, 0])
 
+    def test_all_twelve_kinds_in_40_calls(self):
+        self.assertEqual(len(ALL_KINDS), 40)
+        self.assertEqual({call[0] for call, told in ALL_KINDS}, set(range(12)))
+        for (call, expected), told in zip(ALL_KINDS, split(answers(list(ALL_KINDS_LINE))), strict=True):
+            self.assertEqual(told, expected, call)
+
+    def test_the_counts_of_what_the_calls_6_to_11_answer(self):
+        self.assertEqual(
+            answers([0, 1, 4, 0, 2, 0, 1, 2, 6, 3, 1, 9, 7, 1, 8, 0, 1, 2, 9, 0, 10, 11, 3, 1, 9, 9, 1]),
+            [1, 1, 1, 1, 1, 2, 3, 1, 9, 0, 2, 1, 0, 2, 1, 1, 1, 1, 4, 1, 1, 3, 0, 3, 1, 9, 0, 1, -3])
+
+    def test_40_calls_with_40_words_each(self):
+        self.assertEqual(answers([6, 0, 40, *[11] * 40] * 40), [1, -5] * 40)
+        self.assertEqual(answers([11, 0, 40, *[6] * 40] * 40), [1, -5] * 40)
+
     def test_a_list_of_plain_whole_numbers_is_given_back(self):
-        told = answers(list(FULL_LINE))
+        self.assertIs(type(answers(list(ALL_KINDS_LINE))), list)
+        told = answers(list(FULL_LINE)) + answers(list(ALL_KINDS_LINE))
         self.assertIs(type(told), list)
         for number in told:
             self.assertIs(type(number), int)
@@ -59,6 +122,8 @@ class AnswersTest(unittest.TestCase):
         answers(calls)
         self.assertEqual(calls, FULL_LINE)
         self.assertEqual(answers(GuardedList(FULL_LINE)), FULL_LINE_TOLD)
+        told = answers(list(ALL_KINDS_LINE))
+        self.assertEqual(answers(GuardedList(ALL_KINDS_LINE)), told)
 
     def test_a_second_time_of_asking_gives_the_same(self):
         calls = list(FULL_LINE)
@@ -67,6 +132,8 @@ class AnswersTest(unittest.TestCase):
         self.assertEqual(first, FULL_LINE_TOLD)
         self.assertEqual(second, FULL_LINE_TOLD)
         self.assertIsNot(first, second)
+        self.assertEqual(answers(ALL_KINDS_LINE), answers(ALL_KINDS_LINE))
+        self.assertEqual(ALL_KINDS_LINE, line([call for call, told in ALL_KINDS]))
 
     def test_nothing_is_kept_from_one_line_to_the_next(self):
         answers([0, 4, 1, 9])

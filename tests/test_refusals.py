@@ -1,8 +1,9 @@
-"""Promise 1: each refusal at its edge on both sides, several at once, and all as it was behind them."""
+"""Promises 1 and 2: each refusal at its edge on both sides, several at once, and all as it was behind them."""
 
 import unittest
 
-from tests.helper import MOST, SHOWS, ask, code, last, num, read, say, write
+from tests.helper import (
+    BETTER, MOST, SHOWS, ask, code, last, num, read, run, runbetter, say, sees, sure, trade, write)
 
 # Two words handed over and one row of each kind; the names are 0 to 3.
 BEGUN = (code(2), num(11), write(1, 2, 5, 2), read(0, 1, 6), say(3))
@@ -135,6 +136,105 @@ class RoomRefusalTest(RefusalTest):
         self.refused(full + (num(5),), say(15), -1)
 
 
+class WordsRefusalTest(RefusalTest):
+    def test_a_word_too_few_and_one_too_many(self):
+        for asked in (run, runbetter):
+            for k in range(5):
+                for count in (*range(7), 39, 40):
+                    call = asked(MOST, *[MOST] * count)
+                    if count == k:
+                        self.assertEqual(last(code(k), call), [0, 0])
+                    else:
+                        self.refused((code(k),), call, -5)
+
+    def test_at_the_beginning_no_word_is_handed_over(self):
+        for asked in (run, runbetter):
+            self.assertEqual(last(asked(1)), [0, 0])
+            self.refused((), asked(1, 0), -5)
+            self.refused((), asked(1, *[0] * 40), -5)
+
+    def test_with_rows(self):
+        for asked in (run, runbetter):
+            self.assertEqual(last(*BEGUN, asked(3, 7, 8)), [1, 7919 * 13 + 3, 1, 1, 13, 11])
+            self.refused(BEGUN, asked(3), -5)
+            self.refused(BEGUN, asked(3, 7), -5)
+            self.refused(BEGUN, asked(3, 7, 8, 9), -5)
+            self.refused(BEGUN, asked(3, *range(40)), -5)
+
+    def test_words_that_look_like_calls(self):
+        for asked in (run, runbetter):
+            self.assertEqual(
+                ask(code(1), asked(5, *[5] * 40), asked(0, 6, 6, 6), SHOWS, asked(6, 11), BETTER),
+                [[1], [-5], [-5], [1, 0], [0, 0], [1, 0]])
+
+
+class SeesRefusalTest(RefusalTest):
+    def test_rows_that_are_no_reads(self):
+        for r, told in ((0, [-3]), (1, [-3]), (2, [1, 0]), (3, [-3])):
+            self.assertEqual(last(*BEGUN, sees(r)), told)
+        for r in (0, 1, 3):
+            self.refused(BEGUN, sees(r), -3)
+
+    def test_rows_that_are_not_there(self):
+        for r in (4, 5, 16, MOST):
+            self.refused(BEGUN, sees(r), -3)
+        for r in (0, 1, MOST):
+            self.refused((), sees(r), -3)
+            self.refused((code(4),), sees(r), -3)
+
+    def test_last_of_16_rows_and_the_first_behind(self):
+        full = (read(0, 0, 0),) * 16
+        self.assertEqual(last(*full, sees(15)), [1, 0])
+        self.refused(full, sees(16), -3)
+
+    def test_a_read_that_is_gone_with_the_code(self):
+        self.refused((read(0, 0, 0), code(0)), sees(0), -3)
+
+
+class SureRefusalTest(RefusalTest):
+    def test_row_of_cells_three_and_four(self):
+        self.assertEqual(last(*BEGUN, sure(3, 0, 0)), [0])
+        for cells in (4, 5, MOST):
+            self.refused(BEGUN, sure(cells, 0, 0), -2)
+
+    def test_base_of_the_last_word_and_one_behind(self):
+        for k in range(5):
+            begun = (code(k), num(3), read(0, 0, 0))
+            self.assertEqual(last(*begun, sure(1, k, MOST)), [0])
+            for base in (k + 1, k + 2, MOST):
+                self.refused(begun, sure(1, base, 0), -2)
+
+    def test_at_the_beginning(self):
+        self.assertEqual(last(sure(3, 0, MOST)), [0])
+        self.refused((), sure(0, 1, 0), -2)
+
+    def test_both_and_with_16_rows(self):
+        for begun in (BEGUN, (code(2),) + (say(1),) * 16):
+            self.refused(begun, sure(4, 3, 0), -2)
+            self.refused(begun, sure(MOST, MOST, MOST), -2)
+            self.assertEqual(last(*begun, sure(3, 2, MOST)), [0])
+
+
+class TradeRefusalTest(RefusalTest):
+    def test_the_last_row_the_one_ahead_and_one_that_is_not_there(self):
+        self.assertEqual(last(*BEGUN, trade(2)), [0])
+        self.assertEqual(last(*BEGUN, trade(1)), [1])
+        for r in (3, 4, 5, 16, MOST - 1, MOST):
+            self.refused(BEGUN, trade(r), -3)
+
+    def test_no_rows_and_one(self):
+        for r in (0, 1, MOST):
+            self.refused((), trade(r), -3)
+            self.refused((num(1),), trade(r), -3)
+        self.assertEqual(last(num(1), num(1), trade(0)), [1])
+
+    def test_16_rows(self):
+        full = (num(1),) * 16
+        self.assertEqual(last(*full, trade(14)), [1])
+        for r in (15, 16):
+            self.refused(full, trade(r), -3)
+
+
 class SeveralRefusalsTest(RefusalTest):
     def test_what_is_not_there_is_told_ahead_of_no_room(self):
         full = (code(2),) + (num(9),) * 16
@@ -159,6 +259,15 @@ class SeveralRefusalsTest(RefusalTest):
     def test_many_refusals_in_one_line(self):
         told = ask(*BEGUN, say(4), code(5), read(4, 0, 0), write(0, 3, 0, 0), SHOWS, say(0))
         self.assertEqual(told[5:], [[-2], [-1], [-2], [-2], BEGUN_SHOWN, [5]])
+
+    def test_refusals_of_calls_that_ask_are_followed_by_calls_that_find_all_as_it_was(self):
+        asked = (run(0, 1, 2), sees(2), sure(1, 2, 5), trade(0), BETTER, runbetter(0, 1, 2), SHOWS)
+        refused = (run(0, 1), sees(4), sure(4, 0, 0), trade(3), runbetter(0, 1, 2, 3), sees(0), sure(0, 3, 0))
+        told = ask(*BEGUN, *asked, *refused, *asked)[5:]
+        self.assertEqual(told[7:14], [[-5], [-3], [-2], [-3], [-5], [-3], [-2]])
+        self.assertEqual(told[:7], told[14:])
+        self.assertEqual(told[:7], [
+            [1, 7919 * 7, 1, 1, 7, 11], [1, 0], [1, 2], [0], BEGUN_SHOWN, [1, 7919 * 7, 1, 1, 7, 11], BEGUN_SHOWN])
 
 
 if __name__ == "__main__":
